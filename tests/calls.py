@@ -41,9 +41,44 @@ def meanno(g):
     return [8, g]
 
 
+def meanall(g):
+    return [9, g]
+
+
+def off(g):
+    return [10, g]
+
+
+def setto(g):
+    return [11, g]
+
+
+def both():
+    return [12]
+
+
+def merge(a, b):
+    return [13, a, b]
+
+
+def even():
+    return [14]
+
+
+def bases():
+    return [15]
+
+
+def values():
+    return [16]
+
+
 def ask(*calls):
     """The answers to the calls, one list for each call."""
-    given_back = answers([number for call in calls for number in call])
+    handed_in = [number for call in calls for number in call]
+    if len(calls) > 40 or len(handed_in) > 200:
+        raise AssertionError("the document lets no such list be handed in")
+    given_back = answers(handed_in)
     taken = []
     at = 0
     while at < len(given_back):
@@ -60,11 +95,15 @@ def last(*calls):
     return ask(*calls)[-1]
 
 
+def held(k):
+    """Calls that show all that an object with k scores holds: the table, and the numbers."""
+    return [cell(g, s) for g in (0, 1) for s in range(k)] + [values()]
+
+
 def everything(k):
-    """Calls that show all an object with k scores holds of people, and of its numbers what the means can show."""
-    shown = []
+    """Calls that show all that an object with k scores holds, and all that it answers of that unchanged."""
+    shown = held(k) + [even(), bases()]
     for g in (0, 1):
-        shown += [cell(g, s) for s in range(k)]
-        shown += [people(g), istrue(g), meanyes(g), meanno(g)]
+        shown += [people(g), istrue(g), meanyes(g), meanno(g), meanall(g), off(g)]
         shown += [share(g, s) for s in range(k)]
     return shown
